@@ -1,0 +1,1 @@
+"""Meetbook: tables kept by several hands that meet in pairs."""
