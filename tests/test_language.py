@@ -42,6 +42,11 @@ WORDS_OUT = re.compile(
     r"\b(type|typing|typing_extensions|enum|Enum|IntEnum|StrEnum|Flag|IntFlag|Generic|Protocol|ABC|ABCMeta"
     r"|namedtuple|NamedTuple|TypedDict|TYPE_CHECKING|abstractmethod)\b|dataclass|overload|contextmanager"
 )
+PYTHONS_OWN = set().union(*[dir(each) for each in ("", 0, [], {}, set(), b"")])
+VALUES_FREE = set("count index title find get join lower upper split strip copy add".split())
+WALKED = set("zip enumerate reversed range".split())
+VIEWS = set("items keys values".split())
+WALKERS = set("list tuple dict sorted sum any all enumerate zip min max".split())
 FILES_OUT = set("test tests testing site conftest sitecustomize usercustomize".split()) | set(dir(builtins))
 
 
@@ -194,12 +199,64 @@ def top_faults(tree):
 
 def tree_faults(tree, modules, methods):
     docstring = tree.body[0] if tree.body and ast.get_docstring(tree) is not None else None
-    faults = top_faults(tree)
+    faults = top_faults(tree) + local_faults(tree) + walking_faults(tree)
     for node in ast.walk(tree):
         if not isinstance(node, NODES):
             faults.append("L6" if isinstance(node, ast.stmt) else "L7")
         faults += name_faults(node, methods) + import_faults(node, modules) + def_faults(node)
         faults += statement_faults(node, docstring) + expression_faults(node)
+    return faults
+
+
+def own_values(trees):
+    nodes = [node for tree in trees for node in ast.walk(tree)]
+    return {node.attr for node in nodes if isinstance(node, ast.Attribute) and isinstance(node.ctx, ast.Store)}
+
+
+def class_faults(methods, values):
+    faults = ["L18"] if methods & values else []
+    if (methods - DUNDERS - METHODS - {"add", "discard"}) & PYTHONS_OWN or (values - VALUES_FREE) & PYTHONS_OWN:
+        faults.append("L26")
+    return faults
+
+
+def local_faults(tree):
+    """Parameters and locals that are called like a class or an import of their file."""
+    taken = {each.name for node in tree.body if isinstance(node, ast.ImportFrom) for each in node.names}
+    taken |= {node.name for node in tree.body if isinstance(node, ast.ClassDef)}
+    for top in tree.body:
+        for node in ast.walk(top):
+            if node is not top and not isinstance(node, ast.FunctionDef) and taken & set(bound_names(node)):
+                return ["L15"]
+    return []
+
+
+def called(node):
+    return node.func.id if isinstance(node, ast.Call) and isinstance(node.func, ast.Name) else None
+
+
+def is_walked_here(node, parent):
+    if isinstance(parent, (ast.For, ast.comprehension)):
+        return parent.iter is node
+    if isinstance(parent, ast.Call) and parent.args[:1] == [node]:
+        joins = isinstance(parent.func, ast.Attribute) and parent.func.attr == "join"
+        return called(parent) in WALKERS or (joins and isinstance(parent.func.value, ast.Constant))
+    return False
+
+
+def is_set_asked(node, parent):
+    return isinstance(parent, (ast.Compare, ast.BinOp)) or called(parent) in ("sorted", "len")
+
+
+def walking_faults(tree):
+    faults = []
+    for parent in ast.walk(tree):
+        for node in ast.iter_child_nodes(parent):
+            view = isinstance(node, ast.Call) and isinstance(node.func, ast.Attribute) and node.func.attr in VIEWS
+            if (view or called(node) in WALKED) and not is_walked_here(node, parent):
+                faults.append("L23")
+            if (called(node) == "set" or isinstance(node, ast.Set)) and not is_set_asked(node, parent):
+                faults.append("L24")
     return faults
 
 
@@ -236,7 +293,7 @@ class PackageFiles(unittest.TestCase):
         self.modules = {"meetbook." + name[:-3]: tops(tree) for name, tree in self.trees.items()}
 
     def test_the_files_are_there(self):
-        for name in ("__init__.py", "errors.py", "seen.py", "hand.py"):
+        for name in ("__init__.py", "errors.py", "seen.py", "hand.py", "hall.py", "story.py", "lines.py"):
             self.assertIn(name, self.texts)
 
     def test_each_file_keeps_to_the_rules(self):
@@ -246,6 +303,10 @@ class PackageFiles(unittest.TestCase):
                 self.assertEqual(file_faults(name), [])
                 self.assertEqual(text_faults(text), [])
                 self.assertEqual(tree_faults(self.trees[name], self.modules, methods), [])
+
+    def test_methods_and_values_of_objects(self):
+        trees = self.trees.values()
+        self.assertEqual(class_faults(own_methods(trees), own_values(trees)), [])
 
     def test_each_name_is_bound_once_at_the_top(self):
         for module, names in self.modules.items():
@@ -283,6 +344,13 @@ class TheCheckItself(unittest.TestCase):
         ("L8", "def f(a):\n    return hash(a)\n"),
         ("L12", "def f(a):\n    for _ in a:\n        pass\n"),
         ("L15", "def f(next):\n    return next\n"),
+        ("L15", "from meetbook.errors import MeetError\n\n\ndef f(MeetError):\n    return MeetError\n"),
+        ("L15", "class A:\n    pass\n\n\ndef f():\n    A = 1\n    return A\n"),
+        ("L23", "def f(a):\n    b = zip(a, a)\n    return b\n"),
+        ("L23", "def f(a):\n    return a.items()\n"),
+        ("L23", "def f(a):\n    return len(a.values())\n"),
+        ("L24", "def f(a):\n    b = set(a)\n    return b\n"),
+        ("L24", "def f(a):\n    return [x for x in set(a)]\n"),
         ("L17", "def f(id):\n    return id\n"),
         ("L19", "def f(a):\n    try:\n        return a[0]\n    except:\n        return 0\n"),
         ("L20", "def f(a, b):\n    return a is b\n"),
@@ -305,6 +373,12 @@ class TheCheckItself(unittest.TestCase):
         self.assertEqual(file_faults("notes.txt"), ["L1"])
         self.assertEqual(file_faults("Seen.py"), ["L1"])
         self.assertEqual(file_faults("filter.py"), ["L14"])
+
+    def test_faults_of_methods_and_values(self):
+        self.assertEqual(class_faults({"__init__", "put", "get"}, {"kept", "count"}), [])
+        self.assertEqual(class_faults({"seen"}, {"seen"}), ["L18"])
+        self.assertEqual(class_faults({"swapcase"}, set()), ["L26"])
+        self.assertEqual(class_faults(set(), {"items"}), ["L26"])
 
     def test_drawing_round_is_found(self):
         self.assertTrue(goes_round("a", {"a": ["b"], "b": ["c"], "c": ["a"]}))
